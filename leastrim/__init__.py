@@ -1,0 +1,1 @@
+"""Leastrim: places chosen with the fewest neighbours, or the fewest ties, outside."""
