@@ -1,10 +1,9 @@
 """Webs: what chosen places have as their rim, and what they cost by either kind."""
 
-from leastrim.errors import BadKind, BadPlaces, BadWeb
-from leastrim.lists import choices, is_choice, is_number
+from leastrim.errors import BadWeb
+from leastrim.lists import check_kind, check_places, choices, cost_of_ends, is_choice, is_within
 
 MOST_PLACES = 10
-KINDS = ("rim", "ties")
 
 
 def rim(web, places):
@@ -28,24 +27,12 @@ def check_web(web):
         raise BadWeb("a web is a pair of 1 to 10 places and a rising list of ties")
 
 
-def check_places(places, size):
-    """Refuses what is no rising list of places below the size."""
-    if not is_choice(places, size):
-        raise BadPlaces("chosen places are a rising list of places that are there")
-
-
-def check_kind(kind):
-    """Refuses what is no kind."""
-    if not isinstance(kind, str) or kind not in KINDS:
-        raise BadKind("a kind is the text rim or the text ties")
-
-
 def is_web(thing):
     """Whether it is a pair of a number of places and their ties."""
     if not isinstance(thing, tuple) or len(thing) != 2:
         return False
     size, ties = thing
-    return is_number(size) and 1 <= size <= MOST_PLACES and are_ties(ties, size)
+    return is_within(size, 1, MOST_PLACES) and are_ties(ties, size)
 
 
 def are_ties(thing, size):
@@ -67,21 +54,29 @@ def is_tie(thing, size):
 
 def ends_outside(web, places):
     """The end outside of each tie that leads out of the places, one for each such tie."""
+    held = {place: True for place in places}
     ends = []
     for low, high in web[1]:
-        if low in places and high not in places:
+        if low in held and high not in held:
             ends.append(high)
-        elif high in places and low not in places:
+        elif high in held and low not in held:
             ends.append(low)
     return ends
 
 
 def cost_of(web, places, kind):
     """What places cost in a web, where all three are known to be good."""
-    ends = ends_outside(web, places)
-    return len(ends) if kind == "ties" else len(set(ends))
+    return cost_of_ends(ends_outside(web, places), kind)
 
 
 def least_cost(web, many, kind):
     """What so many places cost at the fewest, where all three are known to be good."""
     return min([cost_of(web, places, kind) for places in choices(web[0], many)])
+
+
+def least_lists(web, many, kind):
+    """All lists of so many places that cost the fewest, in the order of lists."""
+    rows = choices(web[0], many)
+    costs = [cost_of(web, row, kind) for row in rows]
+    low = min(costs)
+    return [row for row, paid in zip(rows, costs) if paid == low]

@@ -3,13 +3,7 @@
 import unittest
 
 from leastrim.answers import Answer, Beaten, Least
-from tests.helpers import (APART, CUBE, KINDS, PETERSEN, all_lists, deep, lists_of, many_webs, ring, row, star,
-                           told_cost)
-
-
-def costs_of(web, kind):
-    """What each list of places costs, by the tests' own reckoning."""
-    return {tuple(places): told_cost(web, places, kind) for places in all_lists(web[0])}
+from tests.helpers import APART, CUBE, KINDS, PETERSEN, all_lists, costs_of, deep, lists_of, many_webs, ring, row, star
 
 
 def is_least(costs, places):

@@ -2,8 +2,8 @@
 
 import unittest
 
-from leastrim.lists import choices, is_choice, is_number
-from tests.helpers import NO_NUMBERS, NO_PLACES, all_lists, lists_of
+from leastrim.lists import choices, cost_of_ends, in_twos, is_choice, is_number, is_within
+from tests.helpers import NO_NUMBERS, NO_PLACES, all_lists, lists_of, no_numbers_within
 
 
 class Numbers(unittest.TestCase):
@@ -15,6 +15,21 @@ class Numbers(unittest.TestCase):
         for thing in NO_NUMBERS:
             with self.subTest(thing=thing):
                 self.assertIs(is_number(thing), False)
+
+    def test_those_within_two_others(self):
+        for low, high in ((0, 0), (0, 3), (-1, -1), (1, 40)):
+            for number in range(low, high + 1):
+                self.assertIs(is_within(number, low, high), True)
+            for thing in no_numbers_within(low, high):
+                self.assertIs(is_within(thing, low, high), False)
+
+    def test_numbers_written_in_twos(self):
+        self.assertEqual(sorted(in_twos(row) for row in all_lists(6)), list(range(64)))
+        self.assertEqual([in_twos(row) for row in ([], [0], [1], [0, 2], [39])], [0, 1, 2, 5, 2 ** 39])
+
+    def test_ends_are_paid_each_or_each_once(self):
+        self.assertEqual((cost_of_ends([4, 2, 4], "ties"), cost_of_ends([4, 2, 4], "rim")), (3, 2))
+        self.assertEqual((cost_of_ends([], "ties"), cost_of_ends([], "rim")), (0, 0))
 
 
 class Choices(unittest.TestCase):

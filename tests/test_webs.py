@@ -2,10 +2,10 @@
 
 import unittest
 
-from leastrim.errors import BadKind, BadPlaces, BadWeb, RimError
+from leastrim.errors import BadKind, BadPlaces, BadWeb
 from leastrim.webs import cost, rim
-from tests.helpers import (KINDS, NO_KINDS, NO_PLACES, NO_WEBS, PETERSEN, all_lists, bare, deep, full, many_webs,
-                           ring, row, star, told_cost, told_rim)
+from tests.helpers import (KINDS, NO_KINDS, NO_PLACES, NO_WEBS, PETERSEN, Asking, all_lists, bare, deep, full,
+                           many_webs, ring, row, star, told_cost, told_rim)
 
 
 class Rims(unittest.TestCase):
@@ -78,15 +78,7 @@ class Costs(unittest.TestCase):
         self.assertEqual(cost(star(4), [1, 2], "".join(["ti", "es"])), 2)
 
 
-class Refusals(unittest.TestCase):
-    def refused(self, wanted, ask, *handed):
-        with self.subTest(handed=handed):
-            before = deep(handed)
-            with self.assertRaises(RimError) as caught:
-                ask(*handed)
-            self.assertIs(type(caught.exception), wanted)
-            self.assertEqual(deep(handed), before)
-
+class Refusals(Asking):
     def test_no_web(self):
         for web in NO_WEBS:
             self.refused(BadWeb, rim, web, [])
